@@ -1,0 +1,1 @@
+"""Alikeclash: rules by which rows clash, for all tables at once."""

@@ -1,0 +1,199 @@
+"""Grounds, rules and tables for the tests, and plain reckonings to compare with.
+
+The reckonings follow the definitions word by word, over Python's own sets.
+"""
+
+from itertools import combinations, product
+from random import Random
+
+FREE = (3, ())
+KEPT = (3, (((1,), (2,)),))
+LESSON = ((0,), (0, 1), (0, 2), (1,), (1, 2))
+PAIRS = ((0, 1), (0, 2), (1, 2))
+MUX = ((0,), (0, 2), (1, 2))
+DAYS = ((0, 1), (0, 2))
+LINE = ((0, 0, 0), (0, 1, 1), (1, 1, 2), (1, 2, 3))
+
+EMPTY = (0, ())
+EMPTY_HELD = (0, (((), ()),))
+ONE = (1, ())
+WHOLE = (2, (((), (0, 1)),))
+BASED = (3, (((), (1,)), ((0,), (2,))))
+CHAINED = (4, (((0,), (1,)), ((1,), (2,)), ((2, 3), (0,))))
+WIDE = (8, ())
+LARGE = (8, tuple(((k,), ((k + 1) % 8,)) for k in range(4)) + tuple(((k, k + 1), (k + 2,)) for k in range(4, 6)))
+GROUNDS = (EMPTY, EMPTY_HELD, ONE, WHOLE, FREE, KEPT, BASED, CHAINED)
+
+DEEP = 0
+for _ in range(29):
+    DEEP = (DEEP,)
+
+# Values of all kinds, of which a function that asks for one kind refuses most.
+ODD = (
+    True, False, None, -1, 10 ** 60, "", "0", "same", "rounds", (), [], [()], ((),), [0], [1], (0,), (True,),
+    (False,), (None,), ("",), (0, 0), (1, 0), (0, 1), (0, True), (False, 1), (-1,), (0, (0,)), ((0,), (0,)), ("same", True),
+    ("always",), ["always"], ("end", 1), (("end", 1),), [("end", True)], (3, ()), (True, ()), (3, []), [3, ()],
+    ((0, 0, 0),), ((0, 0, True),), [[0, 0, 0]], DEEP,
+)
+
+
+def subsets(things):
+    """All tuples of some of the things, in their sequence."""
+    things = tuple(things)
+    return [part for many in range(len(things) + 1) for part in combinations(things, many)]
+
+
+def all_lots(size):
+    return sorted(subsets(range(size)))
+
+
+def closed(ground, lot):
+    return all(set(there) <= set(lot) for here, there in ground[1] if set(here) <= set(lot))
+
+
+def closed_ones(ground):
+    return [lot for lot in all_lots(ground[0]) if closed(ground, lot)]
+
+
+def open_ones(ground):
+    """The closed lots but the whole one."""
+    return [lot for lot in closed_ones(ground) if len(lot) < ground[0]]
+
+
+def closing(ground, lot):
+    return min((held for held in closed_ones(ground) if set(lot) <= set(held)), key=len)
+
+
+def meet(*lots):
+    return tuple(sorted(set(lots[0]).intersection(*lots[1:])))
+
+
+def holds(lot, inner):
+    return set(inner) <= set(lot)
+
+
+def least(lots):
+    return [lot for lot in lots if not any(other != lot and holds(lot, other) for other in lots)]
+
+
+def all_rules(ground):
+    return subsets(open_ones(ground))
+
+
+def likeness(row, other):
+    return tuple(column for column in range(len(row)) if row[column] == other[column])
+
+
+def is_plain_table(ground, rows):
+    """Whether the rows of the ground are a table of it."""
+    for row, other in combinations(rows, 2):
+        if row == other or not closed(ground, likeness(row, other)):
+            return False
+    return True
+
+
+def clashing(rule, table):
+    """The pairs of rows that clash, as a set."""
+    pairs = combinations(range(len(table)), 2)
+    return {(i, j) for i, j in pairs if likeness(table[i], table[j]) in rule}
+
+
+def small_tables(ground, many, numbers=3):
+    """All tables of so many rows with small numbers in them."""
+    rows = list(product(range(numbers), repeat=ground[0]))
+    return [table for table in product(rows, repeat=many) if is_plain_table(ground, table)]
+
+
+def random_ground(chance, size, many):
+    """A ground of the size with at most so many dependences."""
+    dependences = set()
+    for _ in range(many):
+        here = chance.sample(range(size), chance.randint(0, size))
+        there = chance.sample(range(size), chance.randint(0, min(2, size)))
+        dependences.add((tuple(sorted(here)), tuple(sorted(there))))
+    return size, tuple(sorted(dependences))
+
+
+def random_rule(chance, ground):
+    share = chance.random()
+    return tuple(lot for lot in open_ones(ground) if chance.random() < share)
+
+
+def random_table(chance, ground, tries):
+    """A table of at most so many rows."""
+    table = []
+    for _ in range(tries):
+        row = tuple(chance.randint(0, 3) for _ in range(ground[0]))
+        if all(likeness(row, other) in open_ones(ground) for other in table):
+            table.append(row)
+    return tuple(table)
+
+
+def chance_of(number):
+    """A source of chances that is the same in each run."""
+    return Random(number)
+
+
+def is_triple(ground, rule, triple):
+    """Whether the triple is one of the rule, as [9] tells."""
+    lots = triple[1:]
+    if type(triple) is not tuple or len(triple) != 4 or not all(lot in open_ones(ground) for lot in lots):
+        return False
+    a, b, c = lots
+    word = a in rule
+    if triple[0] == "three":
+        others = [meet(a, b), meet(a, c), meet(b, c), meet(a, b, c)]
+        return a < b < c and all((lot in rule) == word for lot in lots) and all((lot in rule) != word for lot in others)
+    if triple[0] != "two" or not holds(c, a) or a == c or holds(c, b) or (b in rule) != word:
+        return False
+    if any((lot in rule) == word for lot in (c, meet(a, b), meet(b, c))):
+        return False
+    third = closing(ground, set(a) | set(meet(b, c)))
+    return third == c or (third in rule) == word
+
+
+def steps_from(ground, state):
+    """All steps that a chain may take at the state, with the state behind each."""
+    for word in (False, True):
+        yield ("end", word), None
+        for lot in open_ones(ground):
+            if holds(lot, state) and lot != state:
+                yield ("one", lot, word), lot
+        for lot, other in combinations(closed_ones(ground), 2):
+            if state not in (lot, other) and meet(lot, other) == state:
+                yield ("two", lot, other, word), closing(ground, set(lot) | set(other))
+
+
+def all_chains(ground, state=None):
+    """All chains of the ground, from the state on."""
+    state = closing(ground, ()) if state is None else state
+    if len(state) == ground[0]:
+        return [()]
+    chains = []
+    for step, behind in steps_from(ground, state):
+        if behind is None:
+            chains.append((step,))
+        else:
+            chains.extend((step,) + rest for rest in all_chains(ground, behind))
+    return chains
+
+
+def said_by(chain, lot):
+    """The word that the chain says to the lot, as [8] tells, and the number of the step that decides."""
+    for k, step in enumerate(chain):
+        if step[0] == "end":
+            return step[1], k
+        if step[0] == "one" and not holds(lot, step[1]):
+            return step[2], k
+        if step[0] == "two":
+            within = [holds(lot, step[1]), holds(lot, step[2])]
+            if not all(within):
+                return (not step[3] if any(within) else step[3]), k
+    raise AssertionError("no step decides")
+
+
+def plain(chain):
+    for step, behind in zip(chain, chain[1:]):
+        if step[0] == "one" and behind[-1] == step[-1] and behind[0] != "two":
+            return False
+    return True

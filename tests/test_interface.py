@@ -1,0 +1,79 @@
+"""The names, parameters and places of all that the interface lists."""
+
+import importlib
+import inspect
+import unittest
+
+FUNCTIONS = {
+    "kinds": {
+        "is_integer": "thing", "is_number": "thing", "is_word": "thing", "is_quotient": "thing", "is_lot": "size thing",
+        "is_dependence": "size thing", "is_group": "many thing", "is_sequence": "many thing",
+        "is_weights": "many thing", "is_shares": "many thing",
+    },
+    "quotients": {
+        "quotient_of": "top bottom", "plus": "one another", "minus": "one another", "times": "one another",
+        "over": "one another", "at_most": "one another", "rounded_up": "one",
+    },
+    "lots": {
+        "whole_of": "size", "lots_of": "size", "meet_of": "size one another", "union_of": "size one another",
+        "without": "size one another", "is_within": "size one another",
+    },
+    "grounds": {
+        "is_ground": "thing", "closing_of": "ground lot", "is_closed": "ground lot", "base_of": "ground",
+        "closed_lots": "ground", "follows": "ground here there", "same_ground": "ground other",
+    },
+    "groundmaking": {
+        "free_ground": "size", "with_dependence": "ground here there", "held_ground": "ground lot",
+        "renamed_ground": "ground sequence", "doubled_ground": "ground column",
+    },
+    "tables": {
+        "is_table": "ground thing", "likeness_of": "ground table one another", "likenesses": "ground table",
+        "first_unkept": "ground rows",
+    },
+    "likechecker": {"lets_likeness": "ground many thing"},
+    "tablemaking": {
+        "table_of": "ground many likeness_list", "renamed_table": "ground table sequence",
+        "rows_moved": "ground table sequence", "part_of": "ground table group",
+    },
+    "sentences": {
+        "is_sentence": "size thing", "holds_for": "size sentence lot", "alike_sentence": "size lot",
+        "same_sense": "ground sentence other_sentence",
+    },
+    "sentencelines": {"sentence_line": "size sentence", "read_sentence": "size text"},
+    "tablelines": {
+        "ground_text": "ground", "read_ground": "text", "table_text": "ground table", "read_table": "ground text",
+    },
+}
+
+CLASSES = {
+    "groundclasses": {"Ground": {"__init__": "size dependences", "closing": "lot", "closed": "", "keeps": "rows", "text": ""}},
+}
+
+
+def parameters(function):
+    return list(inspect.signature(function).parameters)
+
+
+class InterfaceTest(unittest.TestCase):
+
+    def test_functions(self):
+        for module, functions in FUNCTIONS.items():
+            found = importlib.import_module("alikeclash." + module)
+            for name, words in functions.items():
+                function = getattr(found, name)
+                self.assertEqual(parameters(function), words.split(), name)
+                self.assertEqual(function.__module__, "alikeclash." + module, name)
+                self.assertTrue(inspect.isfunction(function), name)
+
+    def test_classes(self):
+        for module, classes in CLASSES.items():
+            found = importlib.import_module("alikeclash." + module)
+            for name, methods in classes.items():
+                made = getattr(found, name)
+                self.assertEqual(made.__module__, "alikeclash." + module, name)
+                for method, words in methods.items():
+                    self.assertEqual(parameters(vars(made)[method]), ["self"] + words.split(), method)
+
+
+if __name__ == "__main__":
+    unittest.main()
