@@ -3,6 +3,7 @@
 The reckonings follow the definitions word by word, over Python's own sets.
 """
 
+from functools import lru_cache
 from itertools import combinations, product
 from random import Random
 
@@ -51,16 +52,23 @@ def closed(ground, lot):
     return all(set(there) <= set(lot) for here, there in ground[1] if set(here) <= set(lot))
 
 
+@lru_cache(maxsize=None)
 def closed_ones(ground):
     return [lot for lot in all_lots(ground[0]) if closed(ground, lot)]
 
 
+@lru_cache(maxsize=None)
 def open_ones(ground):
     """The closed lots but the whole one."""
     return [lot for lot in closed_ones(ground) if len(lot) < ground[0]]
 
 
 def closing(ground, lot):
+    return closing_in(ground, tuple(sorted(lot)))
+
+
+@lru_cache(maxsize=None)
+def closing_in(ground, lot):
     return min((held for held in closed_ones(ground) if set(lot) <= set(held)), key=len)
 
 
@@ -152,18 +160,21 @@ def is_triple(ground, rule, triple):
     return third == c or (third in rule) == word
 
 
+@lru_cache(maxsize=None)
 def steps_from(ground, state):
     """All steps that a chain may take at the state, with the state behind each."""
+    steps = []
+    over = [lot for lot in open_ones(ground) if holds(lot, state) and lot != state]
     for word in (False, True):
-        yield ("end", word), None
-        for lot in open_ones(ground):
-            if holds(lot, state) and lot != state:
-                yield ("one", lot, word), lot
-        for lot, other in combinations(closed_ones(ground), 2):
-            if state not in (lot, other) and meet(lot, other) == state:
-                yield ("two", lot, other, word), closing(ground, set(lot) | set(other))
+        steps.append((("end", word), None))
+        steps.extend((("one", lot, word), lot) for lot in over)
+        for lot, other in combinations(over, 2):
+            if meet(lot, other) == state:
+                steps.append((("two", lot, other, word), closing(ground, lot + other)))
+    return steps
 
 
+@lru_cache(maxsize=None)
 def all_chains(ground, state=None):
     """All chains of the ground, from the state on."""
     state = closing(ground, ()) if state is None else state

@@ -43,10 +43,49 @@ FUNCTIONS = {
     "tablelines": {
         "ground_text": "ground", "read_ground": "text", "table_text": "ground table", "read_table": "ground text",
     },
+    "rules": {
+        "is_rule": "ground thing", "says": "ground rule lot", "opposite": "ground rule",
+        "both_say": "ground rule other_rule", "either_says": "ground rule other_rule",
+        "unlike_say": "ground rule other_rule",
+    },
+    "rulemaking": {
+        "sentence_rule": "ground sentence", "told_rule": "ground lots", "never_rule": "ground", "always_rule": "ground",
+        "sentence_of": "ground rule",
+    },
+    "rulemoving": {
+        "held_rule": "ground rule lot", "rule_under": "ground rule other", "renamed_rule": "ground rule sequence",
+        "doubled_rule": "ground rule column",
+    },
+    "turning": {"turning_lots": "ground rule lot", "yes_lots": "ground rule"},
+    "partings": {"parting_lots": "ground rule other_rule", "parting_table": "ground rule other_rule"},
+    "clashes": {
+        "clash_pairs": "ground rule table", "is_quarrel": "ground rule table group", "is_peace": "ground rule table group",
+        "clashing_with": "ground rule table row",
+    },
+    "webforms": {
+        "parts_of": "ground rule table", "path_in": "ground rule table", "claw_in": "ground rule table",
+        "bend_in": "ground rule table", "ring_word": "ground rule table",
+    },
+    "ruleclasses": {"made": "ground rule"},
+    "chainchecker": {"lets_chain": "ground thing", "is_chain": "ground thing"},
+    "chains": {
+        "states_of": "ground chain", "chain_says": "ground chain lot", "chain_rule": "ground chain",
+        "decides_at": "ground chain lot", "lets_chain_of": "ground rule thing", "exchanged": "ground chain",
+    },
+    "finding": {"chain_of": "ground rule", "has_chain": "ground rule", "next_step": "ground rule lot"},
+    "plains": {"is_plain": "ground chain", "plain_of": "ground chain"},
+    "trusting": {"told_lots": "ground rule", "may_trust": "ground rule way", "ways_of": "ground rule"},
 }
 
 CLASSES = {
-    "groundclasses": {"Ground": {"__init__": "size dependences", "closing": "lot", "closed": "", "keeps": "rows", "text": ""}},
+    "groundclasses": {
+        "Ground": {"__init__": "size dependences", "closing": "lot", "closed": "", "keeps": "rows", "text": ""},
+    },
+    "ruleclasses": {
+        "Rule": {
+            "__init__": "ground lots", "says": "lot", "yes": "", "opposite": "", "held": "lot", "clashes": "table",
+        },
+    },
 }
 
 

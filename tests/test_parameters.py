@@ -5,7 +5,8 @@ import unittest
 
 from alikeclash.errors import NotUsable
 from alikeclash.groundclasses import Ground
-from tests.samples import EMPTY, FREE, KEPT, LINE, WHOLE
+from alikeclash.ruleclasses import made
+from tests.samples import EMPTY, FREE, KEPT, LESSON, LINE, MUX, PAIRS, WHOLE
 from tests.test_interface import CLASSES, FUNCTIONS, parameters
 
 LOTS = (None, 0, True, "0", [0], (3,), (True,), (False, 1), (1, 0), (0, 0), (-1,), ((0,),), (None,))
@@ -20,6 +21,16 @@ GROUPS = LOTS[:5] + ((4,),) + LOTS[6:]
 SENTENCES = (None, "always", ["always"], ("same", 3), ("same", True), ("not",), ("and", ("always",)), (), 0)
 QUOTIENTS = (None, 1, True, (2, 4), (1, 0), (1, -2), [1, 2], (1, True), (1, 2, 3), "1/2", (True, 1))
 TEXTS = (None, 0, True, (), [""], ("3",), ["3"])
+SAID = LOTS + ((0, 1, 2),)
+RULES = (
+    None, 0, "0", [(0,)], ((0,), (0,)), ((1,), (0,)), ((0, 1, 2),), ((True,),), ((3,),), (0,), ([0],), ((1, 0),), (None,),
+)
+CHAINS = (
+    None, 0, "end", [("end", True)], (), ("end", True), (("end", 1),), (("one", (0,), True),), (("end", True),) * 2,
+    (("one", (True,), True), ("end", True)), (("two", (1,), (0,), True), ("end", True)), (["end", True],),
+)
+UNDER = GROUNDS + (FREE, (2, (((0,), (1,)),)), (3, (((1,), ()),)), (4, KEPT[1]), (3, (((1,), (1, 2)),)))
+FOUND = (("one", (0,), False), ("end", True))
 LIKES = ([(0, 1, ())], None, (), ((0, 1),), ((0, 1, (0, 1, 2)),), ((0, True, ()),), ((False, 1, ()),), ((0, 1, (True,)),))
 
 # For each function its fixed first argument, if it is not checked, and what else may stand and may not.
@@ -59,6 +70,46 @@ CASES = {
     "read_ground": ((), ["3", TEXTS]),
     "table_text": ((FREE,), [LINE, TABLES]),
     "read_table": ((FREE,), ["0", TEXTS]),
+    "says": ((FREE,), [LESSON, RULES], [(0,), SAID]),
+    "opposite": ((FREE,), [LESSON, RULES]),
+    "both_say": ((FREE,), [LESSON, RULES], [MUX, RULES]),
+    "either_says": ((FREE,), [LESSON, RULES], [MUX, RULES]),
+    "unlike_say": ((FREE,), [LESSON, RULES], [MUX, RULES]),
+    "sentence_rule": ((FREE,), [("same", 2), SENTENCES]),
+    "told_rule": ((FREE,), [((1,), (0, 1, 2), (1,)), (None, [(1,)], (1,), ([1],), ((3,),), ((1, 0),), ((True,),), 0)]),
+    "sentence_of": ((FREE,), [LESSON, RULES]),
+    "held_rule": ((FREE,), [LESSON, RULES], [(0, 1, 2), LOTS]),
+    "rule_under": ((KEPT,), [((0,),), RULES + (((1,),),)], [(3, (((0,), ()), ((1,), (2,)))), UNDER]),
+    "renamed_rule": ((FREE,), [LESSON, RULES], [(2, 0, 1), SEQUENCES]),
+    "doubled_rule": ((FREE,), [LESSON, RULES], [2, NUMBERS + (3,)]),
+    "turning_lots": ((FREE,), [LESSON, RULES], [(0,), SAID]),
+    "yes_lots": ((FREE,), [LESSON, RULES]),
+    "parting_lots": ((FREE,), [LESSON, RULES], [MUX, RULES]),
+    "parting_table": ((FREE,), [LESSON, RULES], [MUX, RULES]),
+    "clash_pairs": ((FREE,), [LESSON, RULES], [LINE, TABLES]),
+    "is_quarrel": ((FREE,), [LESSON, RULES], [LINE, TABLES], [(0, 3), GROUPS]),
+    "is_peace": ((FREE,), [LESSON, RULES], [LINE, TABLES], [(0, 3), GROUPS]),
+    "clashing_with": ((FREE,), [LESSON, RULES], [LINE, TABLES], [3, ROWS]),
+    "parts_of": ((FREE,), [LESSON, RULES], [LINE, TABLES]),
+    "path_in": ((FREE,), [LESSON, RULES], [LINE, TABLES]),
+    "claw_in": ((FREE,), [LESSON, RULES], [LINE, TABLES]),
+    "bend_in": ((FREE,), [LESSON, RULES], [LINE, TABLES]),
+    "ring_word": ((FREE,), [LESSON, RULES], [LINE, TABLES]),
+    "made": ((FREE,), [MUX, RULES]),
+    "states_of": ((FREE,), [FOUND, CHAINS]),
+    "chain_says": ((FREE,), [FOUND, CHAINS], [(0,), SAID]),
+    "chain_rule": ((FREE,), [FOUND, CHAINS]),
+    "decides_at": ((FREE,), [FOUND, CHAINS], [(0,), SAID]),
+    "lets_chain_of": ((FREE,), [((0,), (0, 1), (0, 2)), RULES], [FOUND, ()]),
+    "exchanged": ((FREE,), [FOUND, CHAINS]),
+    "chain_of": ((FREE,), [LESSON, RULES]),
+    "has_chain": ((FREE,), [LESSON, RULES]),
+    "next_step": ((FREE,), [PAIRS, RULES], [(0,), SAID]),
+    "is_plain": ((FREE,), [FOUND, CHAINS]),
+    "plain_of": ((FREE,), [FOUND, CHAINS]),
+    "told_lots": ((FREE,), [PAIRS, RULES]),
+    "may_trust": ((FREE,), [PAIRS, RULES], ["fit", (None, "", "fits", "Fit", True, 0, ["fit"], ("fit",), [], ())]),
+    "ways_of": ((FREE,), [PAIRS, RULES]),
 }
 
 METHODS = {
@@ -67,6 +118,10 @@ METHODS = {
     ),
     "closing": (lambda: Ground(*FREE), [(0,), LOTS]),
     "keeps": (lambda: Ground(*FREE), [LINE, TABLES + ((),)]),
+    "Rule": ([FREE, GROUNDS], [((1,), (0, 1, 2)), (None, [(1,)], (1,), ([1],), ((3,),), ((1, 0),), ((True,),), 0)]),
+    "says": (lambda: made(FREE, MUX), [(0,), SAID]),
+    "held": (lambda: made(FREE, MUX), [(0, 1, 2), LOTS]),
+    "clashes": (lambda: made(FREE, MUX), [LINE, TABLES]),
 }
 
 
@@ -91,7 +146,9 @@ class ParametersTest(unittest.TestCase):
         self.assertEqual((caught.exception.word, caught.exception.at), (word, -1), thing)
 
     def test_functions(self):
-        checked = {"whole_of", "lots_of", "is_ground", "base_of", "closed_lots", "free_ground", "ground_text"}
+        unchecked = {
+            "whole_of", "lots_of", "base_of", "closed_lots", "free_ground", "ground_text", "never_rule", "always_rule",
+        }
         for module, functions in FUNCTIONS.items():
             found = importlib.import_module("alikeclash." + module)
             for name in functions:
@@ -100,7 +157,7 @@ class ParametersTest(unittest.TestCase):
                     with self.subTest(name):
                         self.refused(getattr(found, name), fixed, cases)
                 else:
-                    self.assertTrue(name.startswith(("is_", "lets_")) or name in checked | UNCHECKED, name)
+                    self.assertTrue(name.startswith(("is_", "lets_")) or name in unchecked, name)
 
     def test_classes(self):
         for module, classes in CLASSES.items():
@@ -125,8 +182,36 @@ class ParametersTest(unittest.TestCase):
         found = importlib.import_module("alikeclash.sentences")
         self.names("sentence", lambda: found.holds_for(0, ("same", 0), (0,)), 0)
 
+    def test_no_lot_is_said_where_the_base_is_whole(self):
+        rules = importlib.import_module("alikeclash.rules")
+        chains = importlib.import_module("alikeclash.chains")
+        finding = importlib.import_module("alikeclash.finding")
+        turning = importlib.import_module("alikeclash.turning")
+        for ground in (EMPTY, WHOLE):
+            for lot in ((), (0,), (0, 1)):
+                for function in (rules.says, turning.turning_lots, finding.next_step):
+                    self.names("lot", lambda: function(ground, (), lot), lot)
+                for function in (chains.chain_says, chains.decides_at):
+                    self.names("lot", lambda: function(ground, (), lot), lot)
+            self.names("rule", lambda: rules.says(ground, ((),), ()), 0)
+            self.names("chain", lambda: chains.chain_rule(ground, (("end", True),)), 0)
 
-UNCHECKED = set()
+    def test_lots_that_are_not_closed(self):
+        rules = importlib.import_module("alikeclash.rules")
+        chains = importlib.import_module("alikeclash.chains")
+        finding = importlib.import_module("alikeclash.finding")
+        turning = importlib.import_module("alikeclash.turning")
+        for function in (rules.says, turning.turning_lots, finding.next_step):
+            self.names("lot", lambda: function(KEPT, ((0,),), (1,)), 0)
+            self.names("rule", lambda: function(KEPT, ((1,),), (1,)), 0)
+        for function in (chains.chain_says, chains.decides_at):
+            self.names("lot", lambda: function(KEPT, (("end", True),), (1,)), 0)
+            self.names("chain", lambda: function(KEPT, (("one", (1,), True), ("end", True)), (1,)), 0)
+        clashes = importlib.import_module("alikeclash.clashes")
+        self.names("row", lambda: clashes.clashing_with(FREE, LESSON, (), 0), 0)
+        self.names("table", lambda: clashes.clash_pairs(KEPT, (), LINE), 0)
+        moving = importlib.import_module("alikeclash.rulemoving")
+        self.names("column", lambda: moving.doubled_rule(EMPTY, (), 0), 0)
 
 
 if __name__ == "__main__":
