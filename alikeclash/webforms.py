@@ -21,9 +21,9 @@ def path_in(ground, rule, table):
     clashing = clash_masks(rule, table)
     for b in range(len(table)):
         for c in lot_of(clashing[b]):
-            behind = clashing[c] & ~clashing[b] & ~(1 << b)
-            for a in lot_of(clashing[b] & ~clashing[c] & ~(1 << c)):
-                ends = lot_of(behind & ~clashing[a])
+            # Row b, which clashes with a, is no end; and c taken for a leaves none.
+            for a in lot_of(clashing[b] & ~clashing[c]):
+                ends = lot_of(clashing[c] & ~clashing[b] & ~clashing[a])
                 if ends != ():
                     return a, b, c, ends[0]
     return None

@@ -111,6 +111,24 @@ class WebFormsTest(unittest.TestCase):
                 self.form((b, d, a, c), opposite(ground, rule), table, ((0, 1), (1, 2), (2, 3)))
         self.assertGreater(min(told.values()), 9)
 
+    def test_forms_in_any_sequence(self):
+        fork = ((0, 1, 2), (0, 3, 4), (5, 1, 6), (7, 8, 2))
+        for sequence in permutations(range(4)):
+            line = rows_moved(FREE, LINE, sequence)
+            path = path_in(FREE, LESSON, line)
+            self.form(path, LESSON, line, ((0, 1), (1, 2), (2, 3)))
+            self.assertIn([line[row] for row in path], (list(LINE), list(LINE)[::-1]))
+            rule = ((0,), (1,), (2,))
+            forked = rows_moved(FREE, fork, sequence)
+            claw = claw_in(FREE, rule, forked)
+            self.form(claw, rule, forked, ((0, 1), (0, 2), (0, 3)))
+            self.assertEqual(forked[claw[0]], fork[0])
+            for row in range(1, 4):
+                three = tuple(part for part in forked if part != fork[row])
+                bend = bend_in(FREE, rule, three)
+                self.form(bend, rule, three, ((0, 1), (1, 2)))
+                self.assertEqual(three[bend[1]], fork[0])
+
     def test_parts(self):
         for ground, rule, table in some_cases(290, (1, 3, 6, 30)):
             parts = parts_of(ground, rule, table)

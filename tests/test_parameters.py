@@ -66,7 +66,7 @@ CASES = {
     "alike_sentence": ((3,), [(0,), LOTS]),
     "same_sense": ((FREE,), [("same", 2), SENTENCES], [("same", 2), SENTENCES]),
     "sentence_line": ((3,), [("same", 2), SENTENCES]),
-    "read_sentence": ((3,), ["same 2", TEXTS]),
+    "read_sentence": ((3,), ["same 2", TEXTS + ("same 2\nsame 2", "same 2\n")]),
     "read_ground": ((), ["3", TEXTS]),
     "table_text": ((FREE,), [LINE, TABLES]),
     "read_table": ((FREE,), ["0", TEXTS]),
