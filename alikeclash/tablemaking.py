@@ -35,6 +35,12 @@ def part_of(ground, table, group):
     return tuple([table[row] for row in group])
 
 
+def likes_told(many, lots):
+    """The likeness list of many rows with these lots, one for each pair of rows, ascending."""
+    pairs = [(i, j) for i in range(many) for j in range(i + 1, many)]
+    return tuple([(i, j, lot) for (i, j), lot in zip(pairs, lots)])
+
+
 def least_alike(told, row, column):
     """The least row that is told alike with row in the column, or row itself."""
     for ahead in range(row):

@@ -127,11 +127,11 @@ def random_rule(chance, ground):
     return tuple(lot for lot in open_ones(ground) if chance.random() < share)
 
 
-def random_table(chance, ground, tries):
-    """A table of at most so many rows."""
+def random_table(chance, ground, tries, numbers=4):
+    """A table of at most so many rows, with so many different numbers in it."""
     table = []
     for _ in range(tries):
-        row = tuple(chance.randint(0, 3) for _ in range(ground[0]))
+        row = tuple(chance.randint(0, numbers - 1) for _ in range(ground[0]))
         if all(likeness(row, other) in open_ones(ground) for other in table):
             table.append(row)
     return tuple(table)
@@ -208,3 +208,61 @@ def plain(chain):
         if step[0] == "one" and behind[-1] == step[-1] and behind[0] != "two":
             return False
     return True
+
+
+def told_rule_of(ground, chain):
+    """The rule that the chain says, as [8] tells."""
+    return tuple(lot for lot in open_ones(ground) if said_by(chain, lot)[0])
+
+
+@lru_cache(maxsize=None)
+def chain_rules(ground):
+    """All rules of the ground that have a chain, each with its plain one."""
+    return {told_rule_of(ground, chain): chain for chain in all_chains(ground) if plain(chain)}
+
+
+def random_chain(chance, ground):
+    """Any chain of the ground, made step by step."""
+    state, steps = closing(ground, ()), []
+    while state is not None and len(state) < ground[0]:
+        choices = list(steps_from(ground, state))
+        twos = [choice for choice in choices if choice[0][0] == "two"]
+        step, state = chance.choice(twos if twos and chance.random() < 0.5 else choices)
+        steps.append(step)
+    return tuple(steps)
+
+
+def nearly_chained(chance, ground, many):
+    """A rule that has a chain, or had one before some words were turned."""
+    rule = set(told_rule_of(ground, random_chain(chance, ground)))
+    for _ in range(many if open_ones(ground) else 0):
+        rule ^= {chance.choice(open_ones(ground))}
+    return tuple(sorted(rule))
+
+
+def slow_groups(rule, table, word):
+    """All groups each two rows of which clash, or for the word False do not."""
+    pairs = clashing(rule, table)
+    return [
+        group for group in subsets(range(len(table)))
+        if all((pair in pairs) == word for pair in combinations(group, 2))
+    ]
+
+
+def slow_heaviest(rule, table, weights, word):
+    """The load, or for the word False the worth, as [7] tells."""
+    return max(sum(weights[row] for row in group) for group in slow_groups(rule, table, word))
+
+
+def slow_fewest(rule, table, word, most=None):
+    """The least number of quarrels, or for False of peaces, of at most so many rows, for all rows."""
+    groups = [set(group) for group in slow_groups(rule, table, word) if most is None or len(group) <= most]
+
+    def fewest(rows):
+        if not rows:
+            return 0
+        first = min(rows)
+        return 1 + min(found(rows - group) for group in groups if first in group)
+
+    found = lru_cache(maxsize=None)(lambda rows: fewest(frozenset(rows)))
+    return found(frozenset(range(len(table))))

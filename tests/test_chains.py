@@ -9,8 +9,8 @@ from alikeclash.plains import is_plain, plain_of
 from alikeclash.rules import opposite
 from tests.samples import (
     BASED, CHAINED, DAYS, EMPTY, EMPTY_HELD, FREE, GROUNDS, KEPT, LARGE, LESSON, MUX, ODD, ONE, PAIRS, WHOLE, WIDE,
-    all_chains, all_rules, chance_of, closing, holds, is_triple, least, meet, open_ones, plain, random_ground,
-    random_rule, said_by, steps_from,
+    all_chains, all_rules, chance_of, closing, holds, is_triple, least, meet, open_ones, plain, random_chain,
+    random_ground, random_rule, said_by, steps_from,
 )
 
 L = (("two", (0,), (1,), False), ("end", True))
@@ -19,17 +19,6 @@ SMALL = (
     EMPTY, EMPTY_HELD, ONE, WHOLE, (2, ()), (2, (((0,), (1,)),)), FREE, KEPT, BASED, (3, (((), (1,)),)),
     (3, (((0, 1), (2,)),)), (3, (((0,), (1,)), ((1,), (0,)))),
 )
-
-
-def random_chain(chance, ground):
-    """Any chain of the ground, made step by step."""
-    state, steps = closing(ground, ()), []
-    while state is not None and len(state) < ground[0]:
-        choices = list(steps_from(ground, state))
-        twos = [choice for choice in choices if choice[0][0] == "two"]
-        step, state = chance.choice(twos if twos and chance.random() < 0.5 else choices)
-        steps.append(step)
-    return tuple(steps)
 
 
 def some_chains(number, many=12):

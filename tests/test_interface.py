@@ -75,6 +75,28 @@ FUNCTIONS = {
     "finding": {"chain_of": "ground rule", "has_chain": "ground rule", "next_step": "ground rule lot"},
     "plains": {"is_plain": "ground chain", "plain_of": "ground chain"},
     "trusting": {"told_lots": "ground rule", "may_trust": "ground rule way", "ways_of": "ground rule"},
+    "chainmaking": {
+        "and_alike": "ground rule lot", "or_unlike": "ground rule lot", "chain_held": "ground rule lot",
+    },
+    "counting": {"many_chains": "size", "many_fits": "size", "many_turned": "size w"},
+    "numbering": {"chain_at": "size many", "number_of": "size chain"},
+    "asking": {
+        "asked_lots": "size", "answers_of": "size rule", "fits_chain": "size answers", "told_back": "size answers",
+        "many_asked": "size",
+    },
+    "chainlines": {"chain_line": "ground chain", "read_chain": "ground text"},
+    "triplechecker": {"lets_triple": "ground rule thing"},
+    "triples": {"triple_of": "ground rule", "triple_at": "ground rule lot"},
+    "ringlikes": {"ring_likes": "ground rule triple"},
+    "ringtables": {"ring_table": "ground rule triple"},
+    "smalltables": {"bend_table": "ground rule", "path_table": "ground rule", "claw_table": "ground rule"},
+    "tryings": {
+        "tried_load": "ground rule table weights", "tried_worth": "ground rule table weights",
+        "tried_rounds": "ground rule table", "tried_cover": "ground rule table",
+        "tried_room_rounds": "ground rule table rooms",
+    },
+    "breaks": {"break_of": "ground rule way"},
+    "breakchecker": {"lets_break": "ground rule thing"},
 }
 
 CLASSES = {
@@ -85,6 +107,9 @@ CLASSES = {
         "Rule": {
             "__init__": "ground lots", "says": "lot", "yes": "", "opposite": "", "held": "lot", "clashes": "table",
         },
+    },
+    "askclasses": {
+        "Asker": {"__init__": "size", "open_lots": "", "tell": "lot w", "told": "", "next_lot": "", "finish": ""},
     },
 }
 

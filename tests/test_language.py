@@ -26,6 +26,8 @@ METHODS = set(
     " rsplit rstrip setdefault split splitlines startswith strip update upper values zfill bit_length"
     " add discard".split()
 )
+# The name _ stands there only where examples have been run before.
+TAKEN = set(dir(builtins)) - {"_"}
 DUNDERS = {"__init__", "__eq__", "__repr__", "__str__", "__len__", "__call__", "__iter__"}
 BARRED_NAMES = set(
     "register mro elements open input law version_info with_traceback add_note attrgetter breakpoint builtins"
@@ -171,7 +173,7 @@ class LanguageTest(unittest.TestCase):
                 else:
                     self.assertTrue(isinstance(node, ast.Expr) and isinstance(node.value, ast.Constant), name)
             self.assertEqual(len(bound), len(set(bound)), name)
-            self.assertFalse(set(bound) & set(dir(builtins)), name)
+            self.assertFalse(set(bound) & TAKEN, name)
 
     def test_nodes(self):
         for name, _, tree in sources():
@@ -201,7 +203,7 @@ class LanguageTest(unittest.TestCase):
                 if isinstance(node, ast.FunctionDef):
                     bound = bound_names(node)
                     self.assertFalse(bound & top, (name, node.name))
-                    self.assertFalse(bound & set(dir(builtins)), (name, node.name))
+                    self.assertFalse(bound & TAKEN, (name, node.name))
                     self.assertFalse(bound & BARRED_NAMES, (name, node.name))
                     if node.name.startswith("__"):
                         self.assertIn(node.name, DUNDERS)

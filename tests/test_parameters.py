@@ -33,6 +33,20 @@ UNDER = GROUNDS + (FREE, (2, (((0,), (1,)),)), (3, (((1,), ()),)), (4, KEPT[1]),
 FOUND = (("one", (0,), False), ("end", True))
 LIKES = ([(0, 1, ())], None, (), ((0, 1),), ((0, 1, (0, 1, 2)),), ((0, True, ()),), ((False, 1, ()),), ((0, 1, (True,)),))
 
+WORDS = (None, 0, 1, "yes", "True", (), (True,), [True])
+WAYS = (None, "", "fits", "Fit", True, 0, ["fit"], ("fit",), [], ())
+WEIGHTS = (
+    None, 3, [3, 1, 1, 3], (3, 1, 1), (3, 1, 1, 3, 1), (3, 1, 1, -1), (3, 1, True, 3), (3, 1, None, 3), "3113", (), ((3,),) * 4,
+)
+ANSWERS = (
+    None, 0, "0", [(0,)], ((),), ((3,),), ((1,), (0,)), ((0,), (0,)), ((True,),), (0,), ([0],), ((1, 0),), ((0, 1, 2, 3),),
+)
+TRIPLE = ("three", (0, 1), (0, 2), (1, 2))
+TRIPLES = (
+    None, 0, "three", list(TRIPLE), (), TRIPLE[:3], TRIPLE + ((),), ("two",) + TRIPLE[1:], ("three", (0, 2), (0, 1), (1, 2)),
+    ("three", (False, 1), (0, 2), (1, 2)), ("two", (0,), (1, 2), (0, 1)), ("three", [0, 1], (0, 2), (1, 2)),
+)
+
 # For each function its fixed first argument, if it is not checked, and what else may stand and may not.
 CASES = {
     "quotient_of": ((), [3, (None, True, "1", (1,), [1])], [2, (None, True, 0, False, "1", (1,))]),
@@ -108,20 +122,48 @@ CASES = {
     "is_plain": ((FREE,), [FOUND, CHAINS]),
     "plain_of": ((FREE,), [FOUND, CHAINS]),
     "told_lots": ((FREE,), [PAIRS, RULES]),
-    "may_trust": ((FREE,), [PAIRS, RULES], ["fit", (None, "", "fits", "Fit", True, 0, ["fit"], ("fit",), [], ())]),
+    "may_trust": ((FREE,), [PAIRS, RULES], ["fit", WAYS]),
     "ways_of": ((FREE,), [PAIRS, RULES]),
+    "and_alike": ((FREE,), [PAIRS, RULES], [(0, 1, 2), LOTS]),
+    "or_unlike": ((FREE,), [PAIRS, RULES], [(0, 1, 2), LOTS]),
+    "chain_held": ((FREE,), [MUX, RULES], [(0,), LOTS]),
+    "many_turned": ((3,), [True, WORDS]),
+    "chain_at": ((3,), [55, NUMBERS + (56, 10 ** 12)]),
+    "number_of": ((3,), [FOUND, CHAINS + ((("one", (0,), True), ("end", True)),)]),
+    "answers_of": ((3,), [PAIRS, RULES]),
+    "fits_chain": ((3,), [((0,), (0, 1, 2)), ANSWERS]),
+    "told_back": ((3,), [((0,), (0, 1), (0, 1, 2), (0, 2)), ANSWERS]),
+    "chain_line": ((FREE,), [FOUND, CHAINS]),
+    "read_chain": ((FREE,), ["end no", TEXTS]),
+    "lets_triple": ((FREE,), [PAIRS, RULES], [TRIPLE, ()]),
+    "triple_of": ((FREE,), [PAIRS, RULES]),
+    "triple_at": ((FREE,), [PAIRS, RULES], [(), SAID + ((0,),)]),
+    "ring_likes": ((FREE,), [PAIRS, RULES], [TRIPLE, TRIPLES]),
+    "ring_table": ((FREE,), [PAIRS, RULES], [TRIPLE, TRIPLES]),
+    "bend_table": ((FREE,), [PAIRS, RULES]),
+    "path_table": ((FREE,), [PAIRS, RULES]),
+    "claw_table": ((FREE,), [PAIRS, RULES]),
+    "tried_load": ((FREE,), [PAIRS, RULES], [LINE, TABLES], [(3, 0, 1, 3), WEIGHTS]),
+    "tried_worth": ((FREE,), [PAIRS, RULES], [LINE, TABLES], [(3, 0, 1, 3), WEIGHTS]),
+    "tried_rounds": ((FREE,), [PAIRS, RULES], [LINE, TABLES]),
+    "tried_cover": ((FREE,), [PAIRS, RULES], [LINE, TABLES]),
+    "tried_room_rounds": ((FREE,), [PAIRS, RULES], [LINE, TABLES], [1, NUMBERS + (0,)]),
+    "break_of": ((FREE,), [PAIRS, RULES], ["fit", WAYS]),
+    "lets_break": ((FREE,), [LESSON, RULES], [("fit", LINE, (0, 3, 1, 2)), ()]),
 }
 
+# For each class what its constructor takes, and for each method an object to ask and what it takes.
 METHODS = {
     "Ground": (
         [3, NUMBERS], [(((1,), (2,)),), (None, [((1,), (2,))], ((1,), (2,)), (((1,), (3,)),), (((True,), ()),), 0)],
     ),
-    "closing": (lambda: Ground(*FREE), [(0,), LOTS]),
-    "keeps": (lambda: Ground(*FREE), [LINE, TABLES + ((),)]),
+    "Ground.closing": (lambda: Ground(*FREE), [(0,), LOTS]),
+    "Ground.keeps": (lambda: Ground(*FREE), [LINE, TABLES + ((),)]),
     "Rule": ([FREE, GROUNDS], [((1,), (0, 1, 2)), (None, [(1,)], (1,), ([1],), ((3,),), ((1, 0),), ((True,),), 0)]),
-    "says": (lambda: made(FREE, MUX), [(0,), SAID]),
-    "held": (lambda: made(FREE, MUX), [(0, 1, 2), LOTS]),
-    "clashes": (lambda: made(FREE, MUX), [LINE, TABLES]),
+    "Rule.says": (lambda: made(FREE, MUX), [(0,), SAID]),
+    "Rule.held": (lambda: made(FREE, MUX), [(0, 1, 2), LOTS]),
+    "Rule.clashes": (lambda: made(FREE, MUX), [LINE, TABLES]),
+    "Asker": ([3, NUMBERS],),
 }
 
 
@@ -148,6 +190,7 @@ class ParametersTest(unittest.TestCase):
     def test_functions(self):
         unchecked = {
             "whole_of", "lots_of", "base_of", "closed_lots", "free_ground", "ground_text", "never_rule", "always_rule",
+            "many_chains", "many_fits", "asked_lots", "many_asked",
         }
         for module, functions in FUNCTIONS.items():
             found = importlib.import_module("alikeclash." + module)
@@ -166,9 +209,10 @@ class ParametersTest(unittest.TestCase):
                 with self.subTest(name):
                     self.refused(getattr(found, name), (), METHODS[name])
                 for method, words in methods.items():
-                    if words and method != "__init__":
-                        made, *cases = METHODS[method]
-                        with self.subTest(method):
+                    # What an Asker is told may be any values; another error refuses them.
+                    if words and method not in ("__init__", "tell"):
+                        made, *cases = METHODS[f"{name}.{method}"]
+                        with self.subTest(name + method):
                             self.refused(getattr(made(), method), (), cases)
 
     def test_edges(self):
