@@ -48,6 +48,11 @@ def lets_chain_of(ground, rule, thing):
 def exchanged(ground, chain):
     """The chain with the other word in each step."""
     need(is_chain(ground, chain), "chain")
+    return with_other_words(chain)
+
+
+def with_other_words(chain):
+    """The steps of the chain, each with the other word."""
     return tuple([step[:-1] + (not step[-1],) for step in chain])
 
 

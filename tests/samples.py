@@ -266,3 +266,63 @@ def slow_fewest(rule, table, word, most=None):
 
     found = lru_cache(maxsize=None)(lambda rows: fewest(frozenset(rows)))
     return found(frozenset(range(len(table))))
+
+
+def chained_tables(number, many=3, most=9):
+    """Quadruples of grounds, rules, their chains and tables of at most so many rows."""
+    chance = chance_of(number)
+    grounds = (FREE, KEPT, CHAINED, (4, ()), (5, ()), (4, (((0, 1), (2,)),)), (5, (((2,), (4,)),)))
+    for ground in grounds * many + (EMPTY, EMPTY_HELD, WHOLE, ONE, BASED):
+        chain = random_chain(chance, ground)
+        for numbers in (2, 3, 4):
+            table = random_table(chance, ground, 6 * most, numbers)[:most]
+            yield ground, told_rule_of(ground, chain), chain, table[:chance.choice((most, most, 4, 1, 0))]
+
+
+def some_weights(chance, table):
+    """Weights of the table: all 0, alike, small, large, or some 0."""
+    return (
+        (0,) * len(table), (7,) * len(table), tuple(chance.randint(0, 4) for _ in table),
+        tuple(10 ** 12 - chance.randint(0, 2) for _ in table), tuple(chance.choice((0, 5)) for _ in table),
+    )
+
+
+def fast_heaviest(pairs, weights):
+    """The greatest weight of rows each two of which are a pair, also for many rows."""
+    beside = [0] * len(weights)
+    for i, j in pairs:
+        beside[i] |= 1 << j
+        beside[j] |= 1 << i
+
+    def bound(rows):
+        """At least the weight: rows without pairs among them give one row each."""
+        total = 0
+        while rows:
+            free, most = rows, 0
+            while free:
+                row = free.bit_length() - 1
+                free &= ~(1 << row) & ~beside[row]
+                rows &= ~(1 << row)
+                most = max(most, weights[row])
+            total += most
+        return total
+
+    def search(rows, weight, best):
+        best = max(best, weight)
+        while rows and weight + bound(rows) > best:
+            row = rows.bit_length() - 1
+            rows &= ~(1 << row)
+            best = search(rows & beside[row], weight + weights[row], best)
+        return best
+
+    return search((1 << len(weights)) - 1, 0, 0)
+
+
+def forty_rows(number, many=4):
+    """Quadruples of grounds, rules, pairs that clash and tables of forty rows."""
+    chance = chance_of(number)
+    grounds = ((3, ()), (5, ()), (4, (((0,), (1,)),)), (5, (((0, 1), (2,)), ((3,), (4,)))))
+    for ground in grounds * many:
+        rule = told_rule_of(ground, random_chain(chance, ground))
+        table = random_table(chance, ground, 300, chance.choice((4, 7, 12)))[:40]
+        yield ground, rule, clashing(rule, table), table

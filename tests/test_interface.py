@@ -97,6 +97,35 @@ FUNCTIONS = {
     },
     "breaks": {"break_of": "ground rule way"},
     "breakchecker": {"lets_break": "ground rule thing"},
+    "sharebreaks": {"share_break": "ground rule", "too_many": "ground rule table"},
+    "sidewebs": {
+        "is_side_web": "thing", "ends_of": "web", "end_sums": "web", "fullest_end": "web",
+        "without_ends": "web left right",
+    },
+    "matchings": {"heaviest_matching": "web", "matching_weight": "web matching"},
+    "matchchecker": {"lets_matching": "web thing"},
+    "spots": {"spots_of": "ground rule table", "spot_ties": "ground rule table many"},
+    "loads": {
+        "sum_of": "weights group", "load_of": "ground rule table weights", "quarrel_of": "ground rule table weights",
+        "worth_of": "ground rule table weights", "peace_of": "ground rule table weights",
+    },
+    "throughs": {
+        "load_through": "ground rule table weights row", "quarrel_through": "ground rule table weights row",
+        "worth_through": "ground rule table weights row", "peace_through": "ground rule table weights row",
+    },
+    "changing": {
+        "raising_rows": "ground rule table weights", "lowering_rows": "ground rule table weights",
+        "spare_of": "ground rule table weights row",
+    },
+    "loadsplits": {
+        "split_groups": "ground table lot", "split_loads": "ground rule table weights",
+        "weight_off": "ground rule table weights",
+    },
+    "dealing": {"dealt_ties": "web", "priced_ties": "web prices"},
+    "pieces": {
+        "is_pieces": "many thing", "pieces_length": "pieces_told", "given_to": "pieces_told row",
+        "side_by_side": "one other", "one_behind": "one other", "cut_pieces": "pieces_told here there",
+    },
 }
 
 CLASSES = {
@@ -110,6 +139,13 @@ CLASSES = {
     },
     "askclasses": {
         "Asker": {"__init__": "size", "open_lots": "", "tell": "lot w", "told": "", "next_lot": "", "finish": ""},
+    },
+    "breakclasses": {"Ladder": {"__init__": "ground rule", "trusted": "", "break_for": "way", "says": ""}},
+    "nestclasses": {
+        "Nest": {
+            "__init__": "ground rule table weights", "load_now": "", "worth_now": "", "quarrel": "", "peace": "",
+            "weigh": "row many", "through": "row", "spare": "row",
+        },
     },
 }
 

@@ -228,8 +228,8 @@ class LanguageTest(unittest.TestCase):
                         self.assertNotEqual(node.id, "_", (name, node.lineno))
 
     def test_calls(self):
+        own = {node.name for _, _, tree in sources() for node in functions_of(tree)}
         for name, _, tree in sources():
-            own = {node.name for node in functions_of(tree)}
             for node in ast.walk(tree):
                 if not isinstance(node, ast.Call):
                     continue

@@ -3,8 +3,10 @@
 import importlib
 import unittest
 
+from alikeclash.breakclasses import Ladder
 from alikeclash.errors import NotUsable
 from alikeclash.groundclasses import Ground
+from alikeclash.nestclasses import Nest
 from alikeclash.ruleclasses import made
 from tests.samples import EMPTY, FREE, KEPT, LESSON, LINE, MUX, PAIRS, WHOLE
 from tests.test_interface import CLASSES, FUNCTIONS, parameters
@@ -45,6 +47,18 @@ TRIPLE = ("three", (0, 1), (0, 2), (1, 2))
 TRIPLES = (
     None, 0, "three", list(TRIPLE), (), TRIPLE[:3], TRIPLE + ((),), ("two",) + TRIPLE[1:], ("three", (0, 2), (0, 1), (1, 2)),
     ("three", (False, 1), (0, 2), (1, 2)), ("two", (0,), (1, 2), (0, 1)), ("three", [0, 1], (0, 2), (1, 2)),
+)
+
+WEB = ((0, 0, 3), (0, 1, 5), (1, 1, 3))
+WEBS = (
+    None, 0, "", list(WEB), WEB[0], WEB[::-1], WEB + WEB[2:], ((0, 0, 0),), ((0, 0, True),), ((True, 0, 1),), ([0, 0, 1],),
+    ((0, 0),), ((0, -1, 1),), (None,),
+)
+PRICES = ((("left", 0), 3), (("left", 1), 1), (("right", 0), 0), (("right", 1), 2))
+PIECES = ((1, (0, 2)), (2, (0, 3)))
+NO_PIECES = (
+    None, 0, "", list(PIECES), PIECES[0], ((0, (0,)),), ((True, (0,)),), ((1, ()),), ((1, (1, 0)),), ((1, (True,)),),
+    ((1, [0]),), ([1, (0,)],), ((1, (0,), 2),), (((1, 1), (0,)),), ((1, (-1,)),), (None,), ((1, "0"),),
 )
 
 # For each function its fixed first argument, if it is not checked, and what else may stand and may not.
@@ -150,6 +164,39 @@ CASES = {
     "tried_room_rounds": ((FREE,), [PAIRS, RULES], [LINE, TABLES], [1, NUMBERS + (0,)]),
     "break_of": ((FREE,), [PAIRS, RULES], ["fit", WAYS]),
     "lets_break": ((FREE,), [LESSON, RULES], [("fit", LINE, (0, 3, 1, 2)), ()]),
+    "share_break": ((FREE,), [PAIRS, RULES]),
+    "too_many": ((FREE,), [PAIRS, RULES], [LINE, TABLES]),
+    "ends_of": ((), [WEB, WEBS]),
+    "end_sums": ((), [WEB, WEBS]),
+    "fullest_end": ((), [WEB, WEBS]),
+    "without_ends": ((), [WEB, WEBS], [0, NUMBERS], [10 ** 12, NUMBERS]),
+    "heaviest_matching": ((), [WEB, WEBS]),
+    "matching_weight": ((), [WEB, WEBS], [(0, 2), (None, [0, 2], (0, 1), (2, 0), (3,), (True,), (0, 0), "0", 0, ((0,),))]),
+    "lets_matching": ((), [WEB, WEBS], [((0, 2), PRICES), ()]),
+    "spots_of": ((FREE,), [LESSON, RULES], [LINE, TABLES]),
+    "spot_ties": ((FREE,), [LESSON, RULES], [LINE, TABLES], [0, NUMBERS + (1, 2, 10 ** 12)]),
+    "sum_of": ((), [(3, 0, 1), (None, 3, [3], (3, -1), (3, True), "30", ((3,),))], [(0, 2), GROUPS + ((3,),)]),
+    "load_of": ((FREE,), [LESSON, RULES], [LINE, TABLES], [(3, 0, 1, 3), WEIGHTS]),
+    "quarrel_of": ((FREE,), [LESSON, RULES], [LINE, TABLES], [(3, 0, 1, 3), WEIGHTS]),
+    "worth_of": ((FREE,), [LESSON, RULES], [LINE, TABLES], [(3, 0, 1, 3), WEIGHTS]),
+    "peace_of": ((FREE,), [LESSON, RULES], [LINE, TABLES], [(3, 0, 1, 3), WEIGHTS]),
+    "load_through": ((FREE,), [LESSON, RULES], [LINE, TABLES], [(3, 0, 1, 3), WEIGHTS], [1, ROWS]),
+    "quarrel_through": ((FREE,), [LESSON, RULES], [LINE, TABLES], [(3, 0, 1, 3), WEIGHTS], [1, ROWS]),
+    "worth_through": ((FREE,), [LESSON, RULES], [LINE, TABLES], [(3, 0, 1, 3), WEIGHTS], [1, ROWS]),
+    "peace_through": ((FREE,), [LESSON, RULES], [LINE, TABLES], [(3, 0, 1, 3), WEIGHTS], [1, ROWS]),
+    "raising_rows": ((FREE,), [LESSON, RULES], [LINE, TABLES], [(3, 0, 1, 3), WEIGHTS]),
+    "lowering_rows": ((FREE,), [LESSON, RULES], [LINE, TABLES], [(3, 0, 1, 3), WEIGHTS]),
+    "spare_of": ((FREE,), [LESSON, RULES], [LINE, TABLES], [(3, 0, 1, 3), WEIGHTS], [1, ROWS]),
+    "split_groups": ((FREE,), [LINE, TABLES], [(0, 1, 2), LOTS]),
+    "split_loads": ((FREE,), [LESSON, RULES], [LINE, TABLES], [(3, 0, 1, 3), WEIGHTS]),
+    "weight_off": ((FREE,), [LESSON, RULES], [LINE, TABLES], [(3, 0, 1, 3), WEIGHTS]),
+    "dealt_ties": ((), [WEB, WEBS]),
+    "priced_ties": ((), [WEB, WEBS], [PRICES, (None, (), list(PRICES), PRICES[:3], PRICES[::-1], 0, "", PRICES * 2)]),
+    "pieces_length": ((), [PIECES, NO_PIECES]),
+    "given_to": ((), [PIECES, NO_PIECES], [10 ** 12, NUMBERS]),
+    "side_by_side": ((), [PIECES, NO_PIECES], [((5, (1,)),), NO_PIECES + (PIECES, ((1, (1, 4)), (1, (3,))))]),
+    "one_behind": ((), [PIECES, NO_PIECES], [PIECES, NO_PIECES]),
+    "cut_pieces": ((), [PIECES, NO_PIECES], [1, NUMBERS], [1, NUMBERS + (0,)]),
 }
 
 # For each class what its constructor takes, and for each method an object to ask and what it takes.
@@ -164,6 +211,12 @@ METHODS = {
     "Rule.held": (lambda: made(FREE, MUX), [(0, 1, 2), LOTS]),
     "Rule.clashes": (lambda: made(FREE, MUX), [LINE, TABLES]),
     "Asker": ([3, NUMBERS],),
+    "Ladder": ([FREE, GROUNDS], [PAIRS, RULES]),
+    "Ladder.break_for": (lambda: Ladder(FREE, PAIRS), ["fit", WAYS]),
+    "Nest": ([FREE, GROUNDS], [LESSON, RULES], [LINE, TABLES], [(3, 0, 1, 3), WEIGHTS]),
+    "Nest.weigh": (lambda: Nest(FREE, LESSON, LINE, (3, 0, 1, 3)), [1, ROWS], [0, NUMBERS]),
+    "Nest.through": (lambda: Nest(FREE, LESSON, LINE, (3, 0, 1, 3)), [1, ROWS]),
+    "Nest.spare": (lambda: Nest(FREE, LESSON, LINE, (3, 0, 1, 3)), [1, ROWS]),
 }
 
 

@@ -1,0 +1,68 @@
+"""Ties dealt out in time: by matchings one behind the other, or end by end by prices."""
+
+from alikeclash.helpers import need
+from alikeclash.matchchecker import are_prices
+from alikeclash.pricing import Pricing
+from alikeclash.sidewebs import ends_at, is_side_web, sums_by_end
+
+
+def dealt_ties(web):
+    """Pieces that give each tie its weight, as long as the greatest sum at one end."""
+    need(is_side_web(web), "web")
+    due = {tie: web[tie][2] for tie in range(len(web))}
+    pieces = []
+    while due:
+        length, group = next_piece(web, due)
+        pieces.append((length, group))
+        given = {tie: length for tie in group}
+        due = {tie: due[tie] - given.get(tie, 0) for tie in due if due[tie] > given.get(tie, 0)}
+    return tuple(pieces)
+
+
+def next_piece(web, due):
+    """The piece that is dealt next, due being what the ties still are to be given."""
+    sums = sums_by_end([web[tie][:2] + (due[tie],) for tie in due])
+    longest = max(list(sums.values()))
+    group = ties_for_ends(web, list(due), [end for end in sums if sums[end] == longest])
+    taken = [end for tie in group for end in ends_at(web[tie])]
+    lengths = [due[tie] for tie in group]
+    # Behind this piece no end may be due for longer than is left, so it ends when one becomes full.
+    lengths.extend([longest - sums[end] for end in sums if end not in taken])
+    return min(lengths), group
+
+
+def ties_for_ends(web, ties, full):
+    """Some of the ties that have all full ends, no two of them with a common end."""
+    counted = []
+    numbers = []
+    for tie in ties:
+        many = len([end for end in ends_at(web[tie]) if end in full])
+        if many > 0:
+            counted.append(web[tie][:2] + (many,))
+            numbers.append(tie)
+    # Some matching has all full ends, so one that has most of them has them all.
+    pricing = Pricing(counted)
+    pricing.match_all()
+    return tuple([numbers[place] for place in pricing.matching()])
+
+
+def priced_ties(web, prices):
+    """For each end with a price, which stretches of the ties' own times run at it."""
+    need(is_side_web(web), "web")
+    need(are_prices(web, prices), "prices")
+    price_at = {end: price for end, price in prices}
+    return tuple([(end, price, stretches_at(web, price_at, end)) for end, price in prices if price > 0])
+
+
+def stretches_at(web, price_at, end):
+    """The triples (tie, from, to) of the ties' own times that run at the end."""
+    stretches = []
+    for tie in range(len(web)):
+        left_end, right_end = ends_at(web[tie])
+        weight = web[tie][2]
+        turn = min(price_at[left_end], weight)
+        if end == left_end and turn > 0:
+            stretches.append((tie, 0, turn))
+        if end == right_end and turn < weight:
+            stretches.append((tie, turn, weight))
+    return tuple(stretches)
