@@ -61,7 +61,8 @@ def stretches_at(web, price_at, end):
         left_end, right_end = ends_at(web[tie])
         weight = web[tie][2]
         turn = min(price_at[left_end], weight)
-        if end == left_end and turn > 0:
+        # Only ends with a price are asked about, so the stretch is not empty.
+        if end == left_end:
             stretches.append((tie, 0, turn))
         if end == right_end and turn < weight:
             stretches.append((tie, turn, weight))

@@ -250,6 +250,9 @@ class RefusedTest(unittest.TestCase):
                 with self.assertRaises(Refused) as caught:
                     function(FREE, rule, LINE, *rest)
                 self.assertTrue(is_triple(FREE, rule, caught.exception.triple))
+                with self.assertRaises(NotUsable) as caught:
+                    function(FREE, rule, LINE + LINE[:1], *rest)
+                self.assertEqual(caught.exception.word, "table")
                 for thing in (None, True, -1, "0", (1, 1, 1)) if rest else ():
                     with self.assertRaises(NotUsable):
                         function(FREE, rule, LINE, *rest[:-1], thing)

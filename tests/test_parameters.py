@@ -227,7 +227,7 @@ class ParametersTest(unittest.TestCase):
         good = [case[0] for case in cases]
         function(*fixed, *good)
         function(**dict(zip(words, [*fixed, *good])))
-        worst = [case[1][0] if case[1] else case[0] for case in cases]
+        worst = [case[1][0] if case[1] else None for case in cases]
         for at, (_, wrong) in enumerate(cases):
             for thing in wrong:
                 for rest in (good, worst):

@@ -61,6 +61,13 @@ class SmallTablesTest(unittest.TestCase):
             for turned in range(9):
                 self.check(ground, nearly_chained(chance, ground, turned % 3))
 
+    def test_many_least_yes_lots(self):
+        for ground in ((4, ()), (5, ()), (4, (((0, 1), (2,)),))):
+            for many in range(1, ground[0]):
+                rule = tuple(lot for lot in open_ones(ground) if len(lot) >= many)
+                self.check(ground, rule)
+                self.check(ground, tuple(lot for lot in open_ones(ground) if lot not in rule))
+
     def test_forms_found(self):
         self.assertEqual(bend_in(FREE, LESSON, bend_table(FREE, LESSON))[1], 1)
         self.assertIn(path_in(FREE, PAIRS, path_table(FREE, PAIRS)), ((0, 1, 2, 3), (3, 2, 1, 0)))
