@@ -16,14 +16,14 @@ def is_quarrel(ground, rule, table, group):
     """Whether each two rows of the group clash."""
     need_rule_and_table(ground, rule, table)
     need(is_group(len(table), group), "group")
-    return pairs_in(rule, table, group) == len(group) * (len(group) - 1) // 2
+    return all_pairs_are(rule, table, group, True)
 
 
 def is_peace(ground, rule, table, group):
     """Whether no two rows of the group clash."""
     need_rule_and_table(ground, rule, table)
     need(is_group(len(table), group), "group")
-    return pairs_in(rule, table, group) == 0
+    return all_pairs_are(rule, table, group, False)
 
 
 def clashing_with(ground, rule, table, row):
@@ -46,9 +46,10 @@ def pairs_that_clash(rule, table):
     return [(i, j) for i, j, lot in likeness_triples(table) if lot in yes]
 
 
-def pairs_in(rule, table, group):
-    """How many pairs of rows of the group clash."""
-    return len(pairs_that_clash(rule, [table[row] for row in group]))
+def all_pairs_are(rule, table, group, word):
+    """Whether each two rows of the group clash, or for the word False whether no two do."""
+    many = len(pairs_that_clash(rule, [table[row] for row in group]))
+    return many == (len(group) * (len(group) - 1) // 2 if word else 0)
 
 
 def clash_masks(rule, table):

@@ -12,33 +12,43 @@ def dealt_ties(web):
     due = {tie: web[tie][2] for tie in range(len(web))}
     pieces = []
     while due:
-        length, group = next_piece(web, due)
+        sums = sums_due(web, due)
+        longest = max(list(sums.values()))
+        group = ties_for_ends(web, list(due), [end for end in sums if sums[end] == longest])
+        length = min(spans_beside(web, due, longest, group))
         pieces.append((length, group))
-        given = {tie: length for tie in group}
-        due = {tie: due[tie] - given.get(tie, 0) for tie in due if due[tie] > given.get(tie, 0)}
+        due = due_behind(due, length, group)
     return tuple(pieces)
 
 
-def next_piece(web, due):
-    """The piece that is dealt next, due being what the ties still are to be given."""
-    sums = sums_by_end([web[tie][:2] + (due[tie],) for tie in due])
-    longest = max(list(sums.values()))
-    group = ties_for_ends(web, list(due), [end for end in sums if sums[end] == longest])
+def sums_due(web, due):
+    """For each end what its ties still are to be given, due telling this of the ties."""
+    return sums_by_end([web[tie][:2] + (due[tie],) for tie in due])
+
+
+def spans_beside(web, due, left, group):
+    """For how long a piece of the group may last, for several reasons, if so long is left in all."""
+    sums = sums_due(web, due)
     taken = [end for tie in group for end in ends_at(web[tie])]
-    lengths = [due[tie] for tie in group]
-    # Behind this piece no end may be due for longer than is left, so it ends when one becomes full.
-    lengths.extend([longest - sums[end] for end in sums if end not in taken])
-    return min(lengths), group
+    # Behind the piece no end may be due for longer than is left.
+    return [due[tie] for tie in group] + [left - sums[end] for end in sums if end not in taken]
+
+
+def due_behind(due, length, group):
+    """What ties still are to be given behind a piece, without those that have all."""
+    behind = {tie: due[tie] - length if tie in group else due[tie] for tie in due}
+    return {tie: behind[tie] for tie in behind if behind[tie] > 0}
 
 
 def ties_for_ends(web, ties, full):
-    """Some of the ties that have all full ends, no two of them with a common end."""
+    """As few of the ties as have all full ends, no two of them with a common end."""
     counted = []
     numbers = []
     for tie in ties:
         many = len([end for end in ends_at(web[tie]) if end in full])
         if many > 0:
-            counted.append(web[tie][:2] + (many,))
+            # An end more counts for more than all ties less.
+            counted.append(web[tie][:2] + (many * (len(ties) + 1) - 1,))
             numbers.append(tie)
     # Some matching has all full ends, so one that has most of them has them all.
     pricing = Pricing(counted)

@@ -68,10 +68,17 @@ def is_piece(thing):
     """Whether any value is a pair of a length and a group that is not empty."""
     if not is_tuple_of(2, thing) or not is_integer(thing[0]) or thing[0] < 1:
         return False
-    group = thing[1]
-    if not isinstance(group, tuple) or not all([is_number(row) for row in group]):
-        return False
-    return group != () and ascends(group)
+    return is_filled_group(thing[1])
+
+
+def is_filled_group(thing):
+    """Whether any value is a set of numbers that is not empty."""
+    return is_number_set(thing) and thing != ()
+
+
+def is_number_set(thing):
+    """Whether any value is a set of numbers."""
+    return isinstance(thing, tuple) and all([is_number(row) for row in thing]) and ascends(thing)
 
 
 def share_rows(one, other):

@@ -3,9 +3,12 @@
 The reckonings follow the definitions word by word, over Python's own sets.
 """
 
+from fractions import Fraction
 from functools import lru_cache
 from itertools import combinations, product
 from random import Random
+
+from alikeclash.errors import InvalidPaper
 
 FREE = (3, ())
 KEPT = (3, (((1,), (2,)),))
@@ -326,3 +329,112 @@ def forty_rows(number, many=4):
         rule = told_rule_of(ground, random_chain(chance, ground))
         table = random_table(chance, ground, 300, chance.choice((4, 7, 12)))[:40]
         yield ground, rule, clashing(rule, table), table
+
+
+def fault_of(checker, *told):
+    """What a checker returns, or the word and the place of its fault."""
+    try:
+        return checker(*told)
+    except InvalidPaper as fault:
+        return fault.word, fault.at
+
+
+def stands(rule, table, group, word):
+    """Whether each two rows of the group clash, or for the word False no two of them."""
+    pairs = clashing(rule, table)
+    return all((pair in pairs) == word for pair in combinations(group, 2))
+
+
+def is_group(many, thing):
+    """Whether any value is an ascending tuple of numbers below many."""
+    if type(thing) is not tuple or any(type(row) is not int or not 0 <= row < many for row in thing):
+        return False
+    return list(thing) == sorted(set(thing))
+
+
+def given(pieces, row):
+    """What the pieces give the row."""
+    return sum(length for length, group in pieces if row in group)
+
+
+def slow_piece_fault(rule, table, k, piece, word, is_length):
+    """The fault of the k-th piece of a plan, or None."""
+    if type(piece) is not tuple or len(piece) != 2 or not is_length(piece[0]):
+        return "piece", k
+    if not is_group(len(table), piece[1]) or piece[1] == ():
+        return "piece", k
+    return None if stands(rule, table, piece[1], word) else ("clash", k)
+
+
+def is_length(thing):
+    return type(thing) is int and thing > 0
+
+
+def slow_plan_fault(rule, table, weights, pieces, word, rooms=None):
+    """The first fault of a plan of rounds, or for the word True of cover, as [67] and [70] tell; or None."""
+    for k, piece in enumerate(pieces):
+        fault = slow_piece_fault(rule, table, k, piece, word, is_length)
+        if fault:
+            return fault
+        if rooms is not None and len(piece[1]) > rooms:
+            return "rooms", k
+    for row in range(len(table)):
+        if given(pieces, row) != weights[row]:
+            return "given", row
+    return None
+
+
+def spoilt(chance, thing):
+    """The value with one thing in it replaced, left out, told twice or moved."""
+    if type(thing) is tuple and thing and chance.random() < 0.8:
+        at = chance.randrange(len(thing))
+        kind = chance.randrange(9)
+        if kind < 5:
+            return thing[:at] + (spoilt(chance, thing[at]),) + thing[at + 1:]
+        if kind == 5:
+            return thing[:at] + thing[at + 1:]
+        if kind == 6:
+            return thing[:at] + thing[at:at + 1] + thing[at:]
+        if kind == 7:
+            return thing[at:] + thing[:at]
+        return list(thing)
+    if type(thing) is int and chance.random() < 0.7:
+        return thing + chance.choice((-1, 1, 1))
+    return chance.choice((True, False, None, 0, 1, 2, 3, -1, "rounds", "cover", "blocked", (), (0,), (1,), (0, 1), [0], 10 ** 60))
+
+
+def quotient(value):
+    """The pair of a Fraction."""
+    return value.numerator, value.denominator
+
+
+def some_shares(chance, table):
+    """Shares of the table: all 0, alike, small, with great tops and all bottoms, or some 0."""
+    return tuple(
+        tuple(quotient(value) for value in shares) for shares in (
+            [Fraction(0)] * len(table), [Fraction(1, 7)] * len(table),
+            [Fraction(chance.randint(0, 4), chance.choice((1, 2, 3, 4))) for _ in table],
+            [Fraction(10 ** 12 - chance.randint(0, 9), chance.randint(1, 60)) for _ in table],
+            [Fraction(chance.choice((0, 5)), chance.randint(57, 60)) for _ in table],
+        )
+    )
+
+
+def values(shares):
+    """The Fractions of quotients."""
+    return [Fraction(*share) for share in shares]
+
+
+def slow_sum(rule, table, shares, row=None):
+    """The greatest sum of a quarrel, or of one with the row."""
+    groups = [group for group in slow_groups(rule, table, True) if row is None or row in group]
+    return max(sum((Fraction(*shares[other]) for other in group), Fraction(0)) for group in groups)
+
+
+def regrouped(chance, pieces, many):
+    """The pieces with another group in one of them."""
+    if pieces == () or many == 0:
+        return pieces
+    at = chance.randrange(len(pieces))
+    group = tuple(sorted(chance.sample(range(many), chance.randint(1, many))))
+    return pieces[:at] + ((pieces[at][0], group),) + pieces[at + 1:]

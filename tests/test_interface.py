@@ -126,6 +126,28 @@ FUNCTIONS = {
         "is_pieces": "many thing", "pieces_length": "pieces_told", "given_to": "pieces_told row",
         "side_by_side": "one other", "one_behind": "one other", "cut_pieces": "pieces_told here there",
     },
+    "roundplans": {"rounds_plan": "ground rule table weights", "cover_plan": "ground rule table weights"},
+    "planpapers": {"plan_paper": "ground rule table weights w"},
+    "planchecker": {"lets_plan": "ground rule table weights thing"},
+    "formulas": {"web_of_rows": "ground rule table", "room_formula": "ground rule table weights rooms"},
+    "roomplans": {
+        "room_plan": "ground rule table weights rooms", "even_plan": "ground rule table weights many",
+    },
+    "roomchecker": {"lets_rooms": "ground rule table weights rooms thing"},
+    "exchanges": {"kept_plan": "ground rule table weights pieces_told row"},
+    "plays": {
+        "first_fit": "ground rule table sequence", "fit_rounds": "ground rule table sequence",
+        "heaviest_kept": "ground rule table weights", "best_sequence": "ground rule table",
+    },
+    "hourkinds": {
+        "is_hours": "many thing", "hours_length": "hours_told", "share_in": "hours_told row",
+        "standing_at": "hours_told moment", "changes_of": "hours_told row",
+    },
+    "hourplans": {"heaviest_sum": "ground rule table shares", "hours_for": "ground rule table shares time"},
+    "hourchecker": {"lets_hours": "ground rule table shares time thing"},
+    "further": {
+        "further_share": "ground rule table shares time row", "barring_quarrel": "ground rule table shares time row",
+    },
 }
 
 CLASSES = {
@@ -145,6 +167,12 @@ CLASSES = {
         "Nest": {
             "__init__": "ground rule table weights", "load_now": "", "worth_now": "", "quarrel": "", "peace": "",
             "weigh": "row many", "through": "row", "spare": "row",
+        },
+    },
+    "planclasses": {
+        "Planner": {
+            "__init__": "ground rule", "rounds_for": "table weights", "cover_for": "table weights",
+            "rooms_for": "table weights rooms", "fit": "table sequence",
         },
     },
 }

@@ -7,6 +7,7 @@ from alikeclash.breakclasses import Ladder
 from alikeclash.errors import NotUsable
 from alikeclash.groundclasses import Ground
 from alikeclash.nestclasses import Nest
+from alikeclash.planclasses import Planner
 from alikeclash.ruleclasses import made
 from tests.samples import EMPTY, FREE, KEPT, LESSON, LINE, MUX, PAIRS, WHOLE
 from tests.test_interface import CLASSES, FUNCTIONS, parameters
@@ -19,6 +20,7 @@ TABLES = (
 NUMBERS = (None, -1, True, False, "1", (1,), [1])
 ROWS = NUMBERS + (4, 10 ** 12)
 SEQUENCES = (None, [0, 1, 2], (0, 1), (0, 1, 1), (0, 1, 3), (0, True, 2), (False, 1, 2), (0, 1, 2, 3), (), "012", ((0,), 1, 2))
+ROW_SEQUENCES = SEQUENCES[:6] + ((0, 1, 2), (0, 1, 2, 4), (0, 1, 2, 2), (0, True, 2, 3), (0, 1, 2, 3, 4), (), "0123")
 GROUPS = LOTS[:5] + ((4,),) + LOTS[6:]
 SENTENCES = (None, "always", ["always"], ("same", 3), ("same", True), ("not",), ("and", ("always",)), (), 0)
 QUOTIENTS = (None, 1, True, (2, 4), (1, 0), (1, -2), [1, 2], (1, True), (1, 2, 3), "1/2", (True, 1))
@@ -59,6 +61,26 @@ PIECES = ((1, (0, 2)), (2, (0, 3)))
 NO_PIECES = (
     None, 0, "", list(PIECES), PIECES[0], ((0, (0,)),), ((True, (0,)),), ((1, ()),), ((1, (1, 0)),), ((1, (True,)),),
     ((1, [0]),), ([1, (0,)],), ((1, (0,), 2),), (((1, 1), (0,)),), ((1, (-1,)),), (None,), ((1, "0"),),
+)
+
+PLAN = ((1, (0, 2)), (2, (0, 3)), (1, (1, 3)))
+LONG_PLAN = ((3, (0,)), (1, (1,)), (1, (2,)), (3, (3,)))
+NO_PLAN = NO_PIECES + (
+    (), PLAN[:2], PLAN + PLAN[:1], ((4, (0, 1, 2, 3)),), ((3, (0, 2)), (1, (1, 3))), ((1, (0, 2)), (2, (0, 4)), (1, (1, 3))),
+    ((3, (0,)), (1, (1, 2)), (3, (3,))),
+)
+ROOMS = NUMBERS + (0,)
+SHARES = ((1, 2), (1, 3), (1, 4), (0, 1))
+NO_SHARES = (
+    None, 0, "", (), list(SHARES), SHARES[:3], SHARES + SHARES[:1], ((2, 4),) + SHARES[1:], ((-1, 2),) + SHARES[1:],
+    (1, 1, 1, 1), ((True, 2),) + SHARES[1:], ([1, 2],) + SHARES[1:], SHARES[:3] + ((0, 2),), SHARES[:3] + ((0, True),),
+)
+TIMES = (None, 1, True, "1/2", (), (2, 4), (-1, 2), (1, 0), [1, 2], (1, True), (True, 1), (0, 2), (1, -2), (1, 2, 3), (1,))
+DAY = (((1, 4), (0, 2)), ((1, 4), (0, 3)), ((1, 3), (1,)))
+NO_HOURS = (
+    None, 0, "", list(DAY), DAY[0], ((1, (0,)),), (((0, 1), (0,)),), (((-1, 2), (0,)),), (((2, 4), (0,)),), (((1, 2), ()),),
+    (((1, 2), (1, 0)),), (((1, 2), (0, 0)),), (((1, 2), (True,)),), (((True, 2), (0,)),), (((1, 2), [0]),), ([(1, 2), (0,)],),
+    (((1, 2), (0,), 1),), (((1, 2), (-1,)),), (((1, 2), 0),), ((1, 2),), (None,),
 )
 
 # For each function its fixed first argument, if it is not checked, and what else may stand and may not.
@@ -197,6 +219,29 @@ CASES = {
     "side_by_side": ((), [PIECES, NO_PIECES], [((5, (1,)),), NO_PIECES + (PIECES, ((1, (1, 4)), (1, (3,))))]),
     "one_behind": ((), [PIECES, NO_PIECES], [PIECES, NO_PIECES]),
     "cut_pieces": ((), [PIECES, NO_PIECES], [1, NUMBERS], [1, NUMBERS + (0,)]),
+    "rounds_plan": ((FREE,), [LESSON, RULES], [LINE, TABLES], [(3, 0, 1, 3), WEIGHTS]),
+    "cover_plan": ((FREE,), [LESSON, RULES], [LINE, TABLES], [(3, 0, 1, 3), WEIGHTS]),
+    "plan_paper": ((FREE,), [LESSON, RULES], [LINE, TABLES], [(3, 0, 1, 3), WEIGHTS], [True, WORDS]),
+    "lets_plan": ((FREE,), [LESSON, RULES], [LINE, TABLES], [(3, 1, 1, 3), WEIGHTS], [("rounds", (0, 1), PLAN), ()]),
+    "web_of_rows": ((FREE,), [LESSON, RULES], [LINE, TABLES]),
+    "room_formula": ((FREE,), [LESSON, RULES], [LINE, TABLES], [(3, 0, 1, 3), WEIGHTS], [1, ROOMS]),
+    "room_plan": ((FREE,), [LESSON, RULES], [LINE, TABLES], [(3, 0, 1, 3), WEIGHTS], [1, ROOMS]),
+    "even_plan": ((FREE,), [LESSON, RULES], [LINE, TABLES], [(3, 1, 1, 3), WEIGHTS], [4, NUMBERS + (0, 3, 9, 10 ** 12)]),
+    "lets_rooms": ((FREE,), [LESSON, RULES], [LINE, TABLES], [(3, 1, 1, 3), WEIGHTS], [2, ROOMS], [PLAN, ()]),
+    "kept_plan": ((FREE,), [LESSON, RULES], [LINE, TABLES], [(3, 1, 1, 3), WEIGHTS], [LONG_PLAN, NO_PLAN], [2, ROWS]),
+    "first_fit": ((FREE,), [PAIRS, RULES], [LINE, TABLES], [(0, 3, 1, 2), ROW_SEQUENCES]),
+    "fit_rounds": ((FREE,), [PAIRS, RULES], [LINE, TABLES], [(0, 3, 1, 2), ROW_SEQUENCES]),
+    "heaviest_kept": ((FREE,), [PAIRS, RULES], [LINE, TABLES], [(3, 0, 1, 3), WEIGHTS]),
+    "best_sequence": ((FREE,), [LESSON, RULES], [LINE, TABLES]),
+    "hours_length": ((), [DAY, NO_HOURS]),
+    "share_in": ((), [DAY, NO_HOURS], [10 ** 12, NUMBERS]),
+    "standing_at": ((), [DAY, NO_HOURS], [(0, 1), TIMES]),
+    "changes_of": ((), [DAY, NO_HOURS], [10 ** 12, NUMBERS]),
+    "heaviest_sum": ((FREE,), [LESSON, RULES], [LINE, TABLES], [SHARES, NO_SHARES]),
+    "hours_for": ((FREE,), [LESSON, RULES], [LINE, TABLES], [SHARES, NO_SHARES], [(1, 1), TIMES]),
+    "lets_hours": ((FREE,), [LESSON, RULES], [LINE, TABLES], [SHARES, NO_SHARES], [(0, 1), TIMES], [("blocked", (0, 1)), ()]),
+    "further_share": ((FREE,), [LESSON, RULES], [LINE, TABLES], [SHARES, NO_SHARES], [(1, 1), TIMES], [1, ROWS]),
+    "barring_quarrel": ((FREE,), [LESSON, RULES], [LINE, TABLES], [SHARES, NO_SHARES], [(1, 1), TIMES], [1, ROWS]),
 }
 
 # For each class what its constructor takes, and for each method an object to ask and what it takes.
@@ -217,6 +262,11 @@ METHODS = {
     "Nest.weigh": (lambda: Nest(FREE, LESSON, LINE, (3, 0, 1, 3)), [1, ROWS], [0, NUMBERS]),
     "Nest.through": (lambda: Nest(FREE, LESSON, LINE, (3, 0, 1, 3)), [1, ROWS]),
     "Nest.spare": (lambda: Nest(FREE, LESSON, LINE, (3, 0, 1, 3)), [1, ROWS]),
+    "Planner": ([FREE, GROUNDS], [PAIRS, RULES]),
+    "Planner.rounds_for": (lambda: Planner(FREE, LESSON), [LINE, TABLES], [(3, 0, 1, 3), WEIGHTS]),
+    "Planner.cover_for": (lambda: Planner(FREE, LESSON), [LINE, TABLES], [(3, 0, 1, 3), WEIGHTS]),
+    "Planner.rooms_for": (lambda: Planner(FREE, LESSON), [LINE, TABLES], [(3, 0, 1, 3), WEIGHTS], [1, ROOMS]),
+    "Planner.fit": (lambda: Planner(FREE, PAIRS), [LINE, TABLES], [(0, 3, 1, 2), ROW_SEQUENCES]),
 }
 
 
