@@ -148,6 +148,28 @@ FUNCTIONS = {
     "further": {
         "further_share": "ground rule table shares time row", "barring_quarrel": "ground rule table shares time row",
     },
+    "equalmore": {"equal_more": "ground rule table shares time"},
+    "lotteries": {
+        "lottery_of": "ground rule table shares", "drawn_by": "hours_told number", "sureness_of": "hours_told group",
+    },
+    "hourjoins": {
+        "hours_behind": "one other", "shortened": "hours_told part", "mixed_hours": "one other part",
+        "hours_without": "hours_told row", "merged_hours": "hours_told",
+    },
+    "roomhours": {"room_hours": "ground rule table shares rooms time"},
+    "hourlines": {"hours_text": "hours_told", "read_hours": "text"},
+    "liveevents": {"is_event": "ground thing", "is_log": "ground thing", "coming_log": "ground table weights"},
+    "livestates": {
+        "is_state": "ground thing", "state_after": "ground state event", "state_behind": "ground log",
+        "first_refused": "ground log",
+    },
+    "liveasks": {
+        "snapshot": "live", "load_now": "live", "worth_now": "live", "quarrel_now": "live", "peace_now": "live",
+        "plan_now": "live", "spare_now": "live name", "clashes_now": "live name",
+    },
+    "replaying": {"replayed": "ground rule log", "loads_through": "ground rule log"},
+    "eventlines": {"event_line": "ground event", "log_text": "ground log"},
+    "eventreadings": {"read_event": "ground text", "read_log": "ground text"},
 }
 
 CLASSES = {
@@ -173,6 +195,25 @@ CLASSES = {
         "Planner": {
             "__init__": "ground rule", "rounds_for": "table weights", "cover_for": "table weights",
             "rooms_for": "table weights rooms", "fit": "table sequence",
+        },
+    },
+    "hourclasses": {
+        "Hours": {
+            "__init__": "ground rule table time", "give": "row share", "more": "row", "given_now": "", "plan": "",
+            "stands": "moment",
+        },
+    },
+    "live": {
+        "LiveTable": {
+            "__init__": "ground rule", "go": "event", "come": "row weight", "leave": "name", "weigh": "name weight",
+            "names_now": "", "table_now": "", "weights_now": "", "state_now": "", "about": "", "tried": "event",
+            "undo": "steps", "do_all": "events", "log": "", "tally": "",
+        },
+    },
+    "desks": {
+        "Desk": {
+            "__init__": "ground rule", "open_table": "name", "do": "name event", "snapshot_of": "name", "names": "",
+            "loads": "", "heaviest_name": "", "report": "",
         },
     },
 }

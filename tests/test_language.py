@@ -298,7 +298,7 @@ class LanguageTest(unittest.TestCase):
 
     def test_handlers(self):
         for name, _, tree in sources():
-            own = {"InvalidPaper", "Refused", "NotUsable", "KeyError", "ZeroDivisionError"}
+            own = {"InvalidPaper", "Refused", "NotUsable", "InvalidEvent", "KeyError", "ZeroDivisionError"}
             for node in ast.walk(tree):
                 if isinstance(node, ast.ExceptHandler):
                     self.assertIsInstance(node.type, ast.Name, name)

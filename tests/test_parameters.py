@@ -4,10 +4,14 @@ import importlib
 import unittest
 
 from alikeclash.breakclasses import Ladder
+from alikeclash.desks import Desk
 from alikeclash.errors import NotUsable
 from alikeclash.groundclasses import Ground
+from alikeclash.hourclasses import Hours
+from alikeclash.live import LiveTable
 from alikeclash.nestclasses import Nest
 from alikeclash.planclasses import Planner
+from alikeclash.replaying import replayed
 from alikeclash.ruleclasses import made
 from tests.samples import EMPTY, FREE, KEPT, LESSON, LINE, MUX, PAIRS, WHOLE
 from tests.test_interface import CLASSES, FUNCTIONS, parameters
@@ -82,6 +86,30 @@ NO_HOURS = (
     (((1, 2), (1, 0)),), (((1, 2), (0, 0)),), (((1, 2), (True,)),), (((True, 2), (0,)),), (((1, 2), [0]),), ([(1, 2), (0,)],),
     (((1, 2), (0,), 1),), (((1, 2), (-1,)),), (((1, 2), 0),), ((1, 2),), (None,),
 )
+NUMBER_SETS = (None, 0, "0", [0], (1, 0), (0, 0), (True,), (-1,), ((0,),), (None,))
+PARTS = TIMES + ((3, 2), (61, 60))
+
+STATE = (((0, 0, 0), (0, 1, 1)), (3, 0), (2, 7), 8)
+STATES = (
+    None, 0, (), list(STATE), STATE[:3], STATE + (8,), (list(STATE[0]),) + STATE[1:], STATE[:1] + ([3, 0],) + STATE[2:],
+    STATE[:2] + ([2, 7], 8), STATE[:2] + ((7, 2), 8), STATE[:2] + ((2, 2), 8), STATE[:2] + ((2,), 8), STATE[:3] + (7,),
+    STATE[:3] + (True,), STATE[:3] + (None,), STATE[:1] + ((3, True),) + STATE[2:], STATE[:1] + ((3,),) + STATE[2:],
+    STATE[:2] + ((False, 7), 8), (((0, 0, 0), (0, 0, 0)),) + STATE[1:], (((0, 0, 0), (0, 1, True)),) + STATE[1:],
+    STATE[:2] + ((1, 2, 7), 8), ((), (), (), -1), ((), (), (0,), 1), STATE[:1] + ((3, -1),) + STATE[2:],
+)
+EVENTS = (
+    None, 0, "leave", (), ("leave",), ["leave", 0], ("leave", True), ("leave", -1), ("leave", 0, 0), ("leave", "0"),
+    ("Leave", 0), ("come", (0, 0), 1), ("come", (0, 0, 0, 0), 1), ("come", [0, 0, 0], 1), ("come", (0, 0, True), 1),
+    ("come", (0, 0, -1), 1), ("come", (0, 0, 0), -1), ("come", (0, 0, 0), False), ("come", (0, 0, 0)), ("come", 0, 1),
+    ("weigh", 0), ("weigh", 0, True), ("weigh", False, 1), ("weigh", 0, 1, 1), ("weigh", -1, 1), (True, 0), (None, 0, 1),
+    ("weigh", (0,), 1), (("leave", 0),),
+)
+LOG = (("come", (0, 0, 0), 3), ("leave", 7))
+LOGS = (None, 0, "", list(LOG), LOG[0]) + tuple(LOG + (event,) for event in EVENTS)
+LIVE = LiveTable(FREE, LESSON)
+LIVE.do_all((("come", (0, 0, 0), 3), ("come", (0, 1, 1), 1), ("leave", 0), ("come", (1, 1, 2), 1)))
+LIVES = (None, 0, "", (), LIVE.state_now(), LiveTable, Desk(FREE, LESSON), Nest(FREE, LESSON, LINE, (1,) * 4), Ground(3, ()))
+NAMES = NUMBERS + (0, 3, 10 ** 12)
 
 # For each function its fixed first argument, if it is not checked, and what else may stand and may not.
 CASES = {
@@ -242,6 +270,53 @@ CASES = {
     "lets_hours": ((FREE,), [LESSON, RULES], [LINE, TABLES], [SHARES, NO_SHARES], [(0, 1), TIMES], [("blocked", (0, 1)), ()]),
     "further_share": ((FREE,), [LESSON, RULES], [LINE, TABLES], [SHARES, NO_SHARES], [(1, 1), TIMES], [1, ROWS]),
     "barring_quarrel": ((FREE,), [LESSON, RULES], [LINE, TABLES], [SHARES, NO_SHARES], [(1, 1), TIMES], [1, ROWS]),
+    "equal_more": ((FREE,), [LESSON, RULES], [LINE, TABLES + ((),)], [SHARES, NO_SHARES], [(1, 1), TIMES]),
+    "lottery_of": ((FREE,), [LESSON, RULES], [LINE, TABLES], [SHARES, NO_SHARES]),
+    "drawn_by": ((), [DAY, NO_HOURS + (DAY + (((1, 5), (0,)),),)], [(59, 60), TIMES + ((1, 1), (3, 2))]),
+    "sureness_of": ((), [DAY + DAY, NO_HOURS], [(0, 9), NUMBER_SETS]),
+    "hours_behind": ((), [DAY, NO_HOURS], [DAY, NO_HOURS]),
+    "shortened": ((), [DAY, NO_HOURS], [(1, 1), PARTS]),
+    "mixed_hours": ((), [DAY, NO_HOURS], [DAY, NO_HOURS], [(0, 1), PARTS]),
+    "hours_without": ((), [DAY, NO_HOURS], [10 ** 12, NUMBERS]),
+    "merged_hours": ((), [DAY, NO_HOURS]),
+    "room_hours": (
+        (FREE,), [LESSON, RULES], [LINE, TABLES], [SHARES, NO_SHARES], [2, ROOMS], [(1, 1), TIMES],
+    ),
+    "hours_text": ((), [DAY, NO_HOURS]),
+    "read_hours": ((), ["1/4 0", TEXTS]),
+    "coming_log": ((FREE,), [LINE, TABLES], [(3, 0, 1, 3), WEIGHTS]),
+    "state_after": ((FREE,), [STATE, STATES], [("leave", 7), ()]),
+    "state_behind": ((FREE,), [LOG[:1], LOGS]),
+    "first_refused": ((FREE,), [LOG, LOGS]),
+    "snapshot": ((), [LIVE, LIVES]),
+    "load_now": ((), [LIVE, LIVES]),
+    "worth_now": ((), [LIVE, LIVES]),
+    "quarrel_now": ((), [LIVE, LIVES]),
+    "peace_now": ((), [LIVE, LIVES]),
+    "plan_now": ((), [LIVE, LIVES]),
+    "spare_now": ((), [LIVE, LIVES], [2, NAMES]),
+    "clashes_now": ((), [LIVE, LIVES], [1, NAMES]),
+    "replayed": ((FREE,), [LESSON, RULES], [LOG[:1], LOGS]),
+    "loads_through": ((FREE,), [LESSON, RULES], [LOG[:1], LOGS]),
+    "event_line": ((FREE,), [LOG[0], EVENTS]),
+    "log_text": ((FREE,), [LOG, LOGS]),
+    "read_event": ((FREE,), ["leave 0", TEXTS]),
+    "read_log": ((FREE,), ["", TEXTS]),
+}
+
+TABLE_NAMES = (None, 0, True, "", "b", "AB", "a b", "ab1", "a" * 13, ["ab"], ("ab",), "ab\n")
+
+
+def desk_with(name):
+    desk = Desk(FREE, LESSON)
+    desk.open_table(name)
+    desk.do(name, ("come", (0, 0, 0), 3))
+    return desk
+
+
+# What takes any values and refuses them by other errors, and what cannot be done twice.
+ELSEWHERE = {
+    "Asker.tell", "LiveTable.go", "LiveTable.come", "LiveTable.leave", "LiveTable.weigh", "LiveTable.tried", "Desk.open_table",
 }
 
 # For each class what its constructor takes, and for each method an object to ask and what it takes.
@@ -267,6 +342,16 @@ METHODS = {
     "Planner.cover_for": (lambda: Planner(FREE, LESSON), [LINE, TABLES], [(3, 0, 1, 3), WEIGHTS]),
     "Planner.rooms_for": (lambda: Planner(FREE, LESSON), [LINE, TABLES], [(3, 0, 1, 3), WEIGHTS], [1, ROOMS]),
     "Planner.fit": (lambda: Planner(FREE, PAIRS), [LINE, TABLES], [(0, 3, 1, 2), ROW_SEQUENCES]),
+    "Hours": ([FREE, GROUNDS], [LESSON, RULES], [LINE, TABLES], [(1, 1), TIMES]),
+    "Hours.give": (lambda: Hours(FREE, LESSON, LINE, (1, 1)), [1, ROWS], [(0, 1), TIMES]),
+    "Hours.more": (lambda: Hours(FREE, LESSON, LINE, (1, 1)), [1, ROWS]),
+    "Hours.stands": (lambda: Hours(FREE, LESSON, LINE, (1, 1)), [(7, 1), TIMES]),
+    "LiveTable": ([FREE, GROUNDS], [LESSON, RULES]),
+    "LiveTable.undo": (lambda: replayed(FREE, LESSON, LOG[:1] + (("weigh", 0, 4),)), [1, NUMBERS + (0,)]),
+    "LiveTable.do_all": (lambda: LiveTable(FREE, LESSON), [(), (None, [], "", 0, list(LOG))]),
+    "Desk": ([FREE, GROUNDS], [LESSON, RULES]),
+    "Desk.do": (lambda: desk_with("ab"), ["ab", TABLE_NAMES], [("weigh", 0, 3), ()]),
+    "Desk.snapshot_of": (lambda: desk_with("ab"), ["ab", TABLE_NAMES]),
 }
 
 
@@ -312,8 +397,7 @@ class ParametersTest(unittest.TestCase):
                 with self.subTest(name):
                     self.refused(getattr(found, name), (), METHODS[name])
                 for method, words in methods.items():
-                    # What an Asker is told may be any values; another error refuses them.
-                    if words and method not in ("__init__", "tell"):
+                    if words and method != "__init__" and f"{name}.{method}" not in ELSEWHERE:
                         made, *cases = METHODS[f"{name}.{method}"]
                         with self.subTest(name + method):
                             self.refused(getattr(made(), method), (), cases)

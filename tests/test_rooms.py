@@ -331,8 +331,9 @@ class KeptPlanTest(unittest.TestCase):
             weights = tuple(row % 4 for row in range(len(table)))
             plan = rounds_plan(ground, rule, table, weights)
             pairs = web_of_rows(ground, rule, table)
+            rows = range(len(table))
             self.quarrels = [
-                tuple(row for row in range(len(table)) if pairs[row][side] == end) for side in (0, 1) for end in range(len(table))
+                tuple(row for row in rows if pairs[row][side] == end) for side in (0, 1) for end in rows
             ]
             for row in range(0, len(table), 5):
                 self.check(ground, rule, table, weights, plan, row)
