@@ -5,7 +5,6 @@ from alikeclash.grounds import is_ground
 from alikeclash.helpers import need
 from alikeclash.live import LiveTable
 from alikeclash.liveasks import load_now, snapshot, worth_now
-from alikeclash.rules import is_rule
 
 LETTERS = "abcdefghijklmnopqrstuvwxyz"
 
@@ -15,8 +14,7 @@ class Desk:
 
     def __init__(self, ground, rule):
         need(is_ground(ground), "ground")
-        need(is_rule(ground, rule), "rule")
-        # A rule without a chain is refused here, not only when the first table is begun.
+        # What is no rule, or a rule without a chain, is refused here, not only when a table is begun.
         chain_of(ground, rule)
         self._ground = ground
         self._rule = rule

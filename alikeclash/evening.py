@@ -8,7 +8,7 @@ def evenly_dealt(web, length):
 
     The number of ties is rounded up in the first pieces and down in the later ones. No end's
     sum is above the length, and the length is at most the weight of all ties. A piece ends
-    when a tie has its weight, an end must be in all pieces behind it, or less ties are to be
+    when a tie has its weight, an end must be in all pieces behind it, or fewer ties are to be
     in these. So there is at most one piece more than ties.
     """
     due = {tie: web[tie][2] for tie in range(len(web))}

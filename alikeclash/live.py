@@ -7,7 +7,6 @@ from alikeclash.helpers import need
 from alikeclash.kinds import is_integer
 from alikeclash.livestates import EMPTY_STATE, moved_state
 from alikeclash.nesting import heaviest_quarrel, weight_of
-from alikeclash.rules import is_rule
 
 
 class LiveTable:
@@ -15,7 +14,7 @@ class LiveTable:
 
     def __init__(self, ground, rule):
         need(is_ground(ground), "ground")
-        need(is_rule(ground, rule), "rule")
+        # What is no rule, or a rule without a chain, is refused here.
         self._chain = chain_of(ground, rule)
         self._ground = ground
         self._rule = rule
